@@ -1,0 +1,1 @@
+"""Placebook: where the members of structures lie. The way in is placebook.book.answers."""
