@@ -2,6 +2,7 @@
 
 from placebook.kinds import Array, BitField, Member, Record, Scalar, is_closed, is_unclosed
 from placebook.layout import bit_field_place, member_place, record_size, used_with
+from placebook.leaves import record_leaf_count
 from placebook.refusals import BOOK_FULL, NOT_SUITED, TOO_LARGE, WRONG_ARGUMENT
 
 MOST_KINDS = 256
@@ -21,11 +22,12 @@ def scalar(book, size, alignment):
 def array(book, t, count):
     if not is_closed(book, t) or count < 0:
         return [WRONG_ARGUMENT]
-    size = book.kinds[t].size * count
+    each = book.kinds[t]
+    size = each.size * count
     # Of this call alone the size is looked at before the room in the book.
     if size > MOST_BYTES:
         return [TOO_LARGE]
-    return add_kind(book, Array(t, count, size, book.kinds[t].alignment))
+    return add_kind(book, Array(t, count, size, each.alignment, each.leaf_count * count))
 
 
 def begin(book, is_union):
@@ -59,6 +61,7 @@ def close(book, t):
     if not is_unclosed(book, t):
         return [WRONG_ARGUMENT]
     record = book.kinds[t]
+    record.leaf_count = record_leaf_count(book, record)
     record.closed = True
     return [0]
 

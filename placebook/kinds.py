@@ -16,9 +16,10 @@ class Book:
 class Kind:
     """What every kind has."""
 
-    def __init__(self, size, alignment, closed):
+    def __init__(self, size, alignment, leaf_count, closed):
         self.size = size
         self.alignment = alignment
+        self.leaf_count = leaf_count
         self.closed = closed
 
 
@@ -26,23 +27,26 @@ class Scalar(Kind):
     """A number in memory."""
 
     def __init__(self, size, alignment):
-        Kind.__init__(self, size, alignment, True)
+        Kind.__init__(self, size, alignment, 1, True)
 
 
 class Array(Kind):
     """So many of one kind, one behind another."""
 
-    def __init__(self, kind, count, size, alignment):
-        Kind.__init__(self, size, alignment, True)
+    def __init__(self, kind, count, size, alignment, leaf_count):
+        Kind.__init__(self, size, alignment, leaf_count, True)
         self.kind = kind
         self.count = count
 
 
 class Record(Kind):
-    """A structure or a union; its size and alignment are those of the members that it has so far."""
+    """A structure or a union; its size and alignment are those of the members that it has so far.
+
+    Its leaves are counted when it is closed.
+    """
 
     def __init__(self, is_union):
-        Kind.__init__(self, 0, 1, False)
+        Kind.__init__(self, 0, 1, 0, False)
         self.is_union = is_union
         self.used = 0
         self.members = []
@@ -72,3 +76,9 @@ def is_closed(book, t):
 
 def is_unclosed(book, t):
     return 0 <= t < len(book.kinds) and not book.kinds[t].closed
+
+
+def has_member(book, t, m):
+    if not 0 <= t < len(book.kinds) or not isinstance(book.kinds[t], Record):
+        return False
+    return 0 <= m < len(book.kinds[t].members)

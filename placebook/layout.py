@@ -8,7 +8,11 @@ def round_up(number, step):
 def member_place(record, alignment):
     if record.is_union:
         return 0
-    return round_up(record.used, 8 * alignment)
+    return place_behind(record.used, alignment)
+
+
+def place_behind(used, alignment):
+    return round_up(used, 8 * alignment)
 
 
 def bit_field_place(record, stretch_size, width):
